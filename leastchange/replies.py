@@ -1,0 +1,135 @@
+"""What each call answers, and what it changes.
+
+Each function takes the world and the call's numbers, and gives back the
+numbers that are answered. The refusals of a call are asked in the order in
+which the document tells them behind it.
+"""
+
+from leastchange.rule import Rule
+from leastchange.rule import is_rule
+
+NO_SUCH = -2
+CANNOT_BE_DONE = -6
+NOT_BEGUN = -11
+NOT_ALLOWED = -22
+TOO_MANY = -28
+
+FEWEST_FACTS = 2
+MOST_FACTS = 5
+MOST_DEEDS = 6
+MOST_EVENTS = 3
+MOST_WEIGHT = 100
+MOST_BASE_STEPS = 40
+
+BEGIN = 0
+
+
+def answer_begin(world, given):
+    many = given[0]
+    if many < FEWEST_FACTS or many > MOST_FACTS:
+        return [NOT_ALLOWED]
+    world.begin(many)
+    return [0]
+
+
+def add_rule(world, rules, most, given):
+    if not is_rule(world.everything(), given[0], given[1], given[2], given[3]):
+        return [NOT_ALLOWED]
+    if len(rules) >= most:
+        return [TOO_MANY]
+    rules.append(Rule(given[0], given[1], given[2], given[3]))
+    return [len(rules) - 1]
+
+
+def answer_deed(world, given):
+    return add_rule(world, world.deeds, MOST_DEEDS, given)
+
+
+def answer_event(world, given):
+    return add_rule(world, world.events, MOST_EVENTS, given)
+
+
+def take_out(rules, place):
+    if place >= len(rules):
+        return [NO_SUCH]
+    rules.pop(place)
+    return [len(rules)]
+
+
+def answer_undeed(world, given):
+    return take_out(world.deeds, given[0])
+
+
+def answer_unevent(world, given):
+    return take_out(world.events, given[0])
+
+
+def answer_set(world, given):
+    state = given[0]
+    if state > world.everything():
+        return [NOT_ALLOWED]
+    before = world.state
+    world.state = state
+    return [before]
+
+
+def answer_now(world, given):
+    return [world.state]
+
+
+def answer_do(world, given):
+    deed = given[0]
+    # Waiting is a choice, but no deed: its number is refused like any other above.
+    if deed >= len(world.deeds):
+        return [NO_SUCH]
+    if not world.deeds[deed].can_happen(world.state):
+        return [CANNOT_BE_DONE]
+    world.state = world.behind_deed(deed, world.state)
+    return [world.state]
+
+
+def answer_weight(world, given):
+    fact = given[0]
+    weight = given[1]
+    if fact >= world.many:
+        return [NO_SUCH]
+    if weight > MOST_WEIGHT:
+        return [NOT_ALLOWED]
+    before = world.weights[fact]
+    world.weights[fact] = weight
+    return [before]
+
+
+def answer_weights(world, given):
+    return [world.many] + world.weights
+
+
+def answer_base(world, given):
+    by_itself = given[0]
+    steps = given[1]
+    if by_itself > 1 or steps > MOST_BASE_STEPS:
+        return [NOT_ALLOWED]
+    return [world.held_against(by_itself, steps)]
+
+
+REPLIES = {
+    0: answer_begin,
+    1: answer_deed,
+    2: answer_event,
+    3: answer_undeed,
+    4: answer_unevent,
+    5: answer_set,
+    6: answer_now,
+    7: answer_do,
+    8: answer_weight,
+    9: answer_weights,
+    10: answer_base,
+}
+
+
+def answer_call(world, number, given):
+    if number != BEGIN and not world.has_begun():
+        return [NOT_BEGUN]
+    if number not in REPLIES:
+        raise NotImplementedError(f"call {number} is not built yet")
+    return REPLIES[number](world, given)

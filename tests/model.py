@@ -1,0 +1,126 @@
+"""A second telling of the document for the tests: each fact is held as True or False by itself."""
+
+
+class Refused(Exception):
+    def __init__(self, number):
+        super().__init__(number)
+        self.number = number
+
+
+def refuse_if(due, number):
+    if due:
+        raise Refused(number)
+
+
+def members(number):
+    return {q for q in range(32) if number // 2 ** q % 2 == 1}
+
+
+def told_as_number(facts):
+    return sum(2 ** q for q in facts)
+
+
+class Model:
+    def __init__(self):
+        self.facts = None
+
+    def answer(self, call):
+        try:
+            refuse_if(self.facts is None and call[0] != "begin", -11)
+            answered = getattr(self, "call_" + call[0])(*call[1:])
+        except Refused as refusal:
+            return [refusal.number]
+        return answered if isinstance(answered, list) else [answered]
+
+    def call_begin(self, m):
+        refuse_if(m not in (2, 3, 4, 5), -22)
+        self.facts = set(range(m))
+        self.so = set()
+        self.rules = {"deed": [], "event": []}
+        self.weight_of = {q: 1 for q in range(m)}
+        return 0
+
+    def told(self, kind, most, a, b, c, d):
+        a, b, c, d = members(a), members(b), members(c), members(d)
+        refuse_if(not (b <= a <= self.facts and d <= c <= self.facts and c), -22)
+        refuse_if(len(self.rules[kind]) == most, -28)
+        self.rules[kind].append(({q: q in b for q in a}, {q: q in d for q in c}))
+        return len(self.rules[kind]) - 1
+
+    def call_deed(self, a, b, c, d):
+        return self.told("deed", 6, a, b, c, d)
+
+    def call_event(self, a, b, c, d):
+        return self.told("event", 3, a, b, c, d)
+
+    def taken_out(self, kind, i):
+        refuse_if(i >= len(self.rules[kind]), -2)
+        self.rules[kind] = self.rules[kind][:i] + self.rules[kind][i + 1:]
+        return len(self.rules[kind])
+
+    def call_undeed(self, i):
+        return self.taken_out("deed", i)
+
+    def call_unevent(self, i):
+        return self.taken_out("event", i)
+
+    def call_set(self, s):
+        refuse_if(not members(s) <= self.facts, -22)
+        before = self.so
+        self.so = members(s)
+        return told_as_number(before)
+
+    def call_now(self):
+        return told_as_number(self.so)
+
+    @staticmethod
+    def can(rule, so):
+        return all((q in so) == wanted for q, wanted in rule[0].items())
+
+    @staticmethod
+    def made(rule, so):
+        return {q for q in so | set(rule[1]) if rule[1].get(q, q in so)}
+
+    def step(self, choice, so):
+        """What is so behind a step, or None if the choice can't be done."""
+        deeds = self.rules["deed"]
+        if choice < len(deeds):
+            if not self.can(deeds[choice], so):
+                return None
+            so = self.made(deeds[choice], so)
+        for event in self.rules["event"]:
+            if self.can(event, so):
+                so = self.made(event, so)
+        return so
+
+    def call_do(self, i):
+        refuse_if(i >= len(self.rules["deed"]), -2)
+        so = self.step(i, self.so)
+        refuse_if(so is None, -6)
+        self.so = so
+        return told_as_number(so)
+
+    def call_weight(self, q, w):
+        refuse_if(q not in self.facts, -2)
+        refuse_if(w > 100, -22)
+        before = self.weight_of[q]
+        self.weight_of[q] = w
+        return before
+
+    def call_weights(self):
+        return [len(self.facts)] + [self.weight_of[q] for q in sorted(self.facts)]
+
+    def against(self, b, t):
+        so = self.so
+        for turn in range(t * b):
+            so = self.step(len(self.rules["deed"]), so)
+        return so
+
+    def call_base(self, b, t):
+        refuse_if(b > 1 or t > 40, -22)
+        return told_as_number(self.against(b, t))
+
+
+def model_answers(calls):
+    model = Model()
+    return [model.answer(call) for call in calls]

@@ -1,0 +1,127 @@
+"""The interface: the list that is handed in, and the list that is given back."""
+
+import unittest
+
+from asking import HIGHEST, ask, flat
+from leastchange.facts import answers
+
+REFUSED = (
+    ("begin", 1), ("begin", HIGHEST), ("deed", 1, 2, 1, 1), ("deed", 0, 0, 0, 0), ("deed", 0, 0, 8, 8),
+    ("event", 8, 8, 1, 1), ("event", 0, 0, 1, 1), ("undeed", 2), ("undeed", HIGHEST), ("unevent", 3),
+    ("set", 8), ("set", HIGHEST), ("do", 2), ("do", 1), ("weight", 3, 1), ("weight", 0, 101),
+    ("base", 2, 0), ("base", 1, 41),
+)
+REFUSALS = [
+    [-22], [-22], [-22], [-22], [-22], [-22], [-28], [-2], [-2], [-2], [-22], [-22], [-2], [-6], [-2],
+    [-22], [-22], [-22],
+]
+BUSY = (
+    ("begin", 3), ("deed", 0, 0, 1, 1), ("deed", 4, 4, 1, 0), ("event", 1, 1, 2, 2),
+    ("event", 7, 4, 7, 5), ("event", 7, 5, 7, 1), ("weight", 2, 30), ("set", 2),
+)
+LOOK = (
+    ("now",), ("weights",), ("base", 0, 9), ("base", 1, 9), ("do", 0), ("set", 4), ("do", 1),
+    ("undeed", 0), ("unevent", 0), ("base", 1, 1), ("now",),
+)
+
+
+class WhatIsGivenBack(unittest.TestCase):
+    def test_how_many_numbers_then_these(self):
+        self.assertEqual(answers([0, 2]), [1, 0])
+        self.assertEqual(answers([6]), [1, -11])
+        self.assertEqual(answers([0, 2, 6, 9]), [1, 0, 1, 0, 3, 2, 1, 1])
+        self.assertEqual(
+            answers([0, 3, 1, 0, 0, 1, 1, 2, 1, 1, 4, 4, 7, 0, 8, 1, 100, 9, 10, 1, 2, 5, 3]),
+            [1, 0, 1, 0, 1, 0, 1, 5, 1, 1, 4, 3, 1, 100, 1, 1, 5, 1, 5])
+
+    def test_a_refusal_is_its_number_alone(self):
+        self.assertEqual(answers([8, 0, 0, 9, 0, 6]), [1, -11, 1, -11, 1, -22])
+        self.assertEqual(
+            answers([0, 2, 3, 0, 4, 0, 7, 0, 5, 4, 10, 2, 0]),
+            [1, 0, 1, -2, 1, -2, 1, -2, 1, -22, 1, -22])
+
+    def test_whole_numbers_in_a_list(self):
+        told = answers(flat(BUSY + LOOK + REFUSED))
+        self.assertIs(type(told), list)
+        for number in told:
+            self.assertIs(type(number), int)
+
+    def test_rows_are_read_to_their_end(self):
+        self.assertEqual(answers([16, 0, 0, 6]), [1, -11, 1, -11])
+        self.assertEqual(answers([16, 0, 3, 0, 2, 0, 0, 2, 6]), [1, -11, 1, 0, 1, 0])
+        self.assertEqual(answers([18, 0, 0, 0, 2, 0, 2, 0, 2]), [1, -11, 1, 0])
+        self.assertEqual(answers([18, 0, 0, 0, 0, 0, 2]), [1, -11, 1, 0])
+        self.assertEqual(answers([18, 0, 0, 0, 12] + [0] * 12 + [0, 2]), [1, -11, 1, 0])
+
+
+class RefusedCalls(unittest.TestCase):
+    def test_many_in_a_row_leave_all_as_it_was(self):
+        without = ask(*BUSY, *LOOK)
+        refused = ask(*BUSY, *REFUSED, *LOOK)
+        self.assertEqual(refused[:8], without[:8])
+        self.assertEqual(refused[8:26], REFUSALS)
+        self.assertEqual(refused[26:], without[8:])
+
+    def test_each_of_them_many_times(self):
+        without = ask(*BUSY, *LOOK)
+        for place, call in enumerate(REFUSED):
+            refused = ask(*BUSY, *[call] * 41, *LOOK)
+            self.assertEqual(refused[8:49], [REFUSALS[place]] * 41)
+            self.assertEqual(refused[49:], without[8:])
+
+
+class LongLists(unittest.TestCase):
+    def test_sixty_calls(self):
+        self.assertEqual(ask(*[("now",)] * 60), [[-11]] * 60)
+        self.assertEqual(ask(*[("begin", 5)] * 60), [[0]] * 60)
+
+    def test_sixty_calls_of_many_kinds(self):
+        calls = BUSY + REFUSED + LOOK + (("begin", 2), ("deed", 1, 0, 1, 1), ("event", 2, 0, 2, 2))
+        calls = calls + (("do", 0), ("set", 0)) * 10
+        self.assertEqual(len(calls), 60)
+        answered = ask(*calls)
+        self.assertEqual(len(answered), 60)
+        self.assertEqual(answered[37:], [[0], [0], [0]] + [[3], [3]] * 10)
+
+
+class NothingIsKept(unittest.TestCase):
+    def test_the_list_is_the_same_afterwards(self):
+        for calls in (BUSY + REFUSED + LOOK, (("changes", 0, [1, 2]), ("price", 1, 1, 0, [3]))):
+            handed = flat(calls)
+            copy = list(handed)
+            answers(handed)
+            self.assertEqual(handed, copy)
+
+    def test_the_list_is_not_changed_for_a_while_either(self):
+        class Watched(list):
+            def refuse(self, *given):
+                raise RuntimeError("the list was changed")
+
+            append = extend = insert = pop = remove = clear = sort = reverse = refuse
+            __setitem__ = __delitem__ = __iadd__ = __imul__ = refuse
+
+        handed = flat(BUSY + REFUSED + LOOK)
+        self.assertEqual(answers(Watched(handed)), answers(handed))
+
+    def test_twice_gives_the_same(self):
+        handed = flat(BUSY + REFUSED + LOOK)
+        first = answers(handed)
+        self.assertEqual(answers(handed), first)
+
+    def test_one_list_leaves_nothing_for_the_next(self):
+        answers(flat(BUSY))
+        self.assertEqual(ask(("now",), ("weights",), ("undeed", 0)), [[-11], [-11], [-11]])
+        self.assertEqual(
+            ask(("begin", 3), ("now",), ("weights",), ("undeed", 0), ("unevent", 0))[1:],
+            [[0], [3, 1, 1, 1], [-2], [-2]])
+
+    def test_changing_what_was_given_back_changes_nothing(self):
+        handed = flat(BUSY + LOOK)
+        first = answers(handed)
+        kept = list(first)
+        first.clear()
+        self.assertEqual(answers(handed), kept)
+
+
+if __name__ == "__main__":
+    unittest.main()
