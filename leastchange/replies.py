@@ -7,12 +7,14 @@ which the document tells them behind it.
 
 from leastchange.rule import Rule
 from leastchange.rule import is_rule
+from leastchange.rule import within
 
 NO_SUCH = -2
 CANNOT_BE_DONE = -6
 NOT_BEGUN = -11
 NOT_ALLOWED = -22
 TOO_MANY = -28
+AIM_NOT_MET = -33
 
 FEWEST_FACTS = 2
 MOST_FACTS = 5
@@ -82,9 +84,9 @@ def answer_do(world, given):
     # Waiting is a choice, but no deed: its number is refused like any other above.
     if deed >= len(world.deeds):
         return [NO_SUCH]
-    if not world.deeds[deed].can_happen(world.state):
+    if not world.can_choose(deed, world.state):
         return [CANNOT_BE_DONE]
-    world.state = world.behind_deed(deed, world.state)
+    world.state = world.behind_choice(deed, world.state)
     return [world.state]
 
 
@@ -112,6 +114,59 @@ def answer_base(world, given):
     return [world.held_against(by_itself, steps)]
 
 
+def all_choices(world, row):
+    return all([world.is_choice(choice) for choice in row])
+
+
+def is_aim(world, aim, wanted):
+    return within(aim, world.everything()) and within(wanted, aim)
+
+
+def count_and_facts(world, facts):
+    told = world.facts_of(facts)
+    return [len(told)] + told
+
+
+def answer_changes(world, given):
+    by_itself = given[0]
+    row = given[1:]
+    if not all_choices(world, row):
+        return [NO_SUCH]
+    if by_itself > 1:
+        return [NOT_ALLOWED]
+    states = world.states_along(row)
+    against = world.held_against(by_itself, len(states) - 1)
+    return count_and_facts(world, states[-1] ^ against)
+
+
+def answer_touches(world, given):
+    choice = given[0]
+    if not world.is_choice(choice):
+        return [NO_SUCH]
+    if not world.can_choose(choice, world.state):
+        return [CANNOT_BE_DONE]
+    chosen = world.behind_choice(choice, world.state)
+    return count_and_facts(world, chosen ^ world.behind_waiting(1))
+
+
+def answer_price(world, given):
+    aim = given[0]
+    wanted = given[1]
+    by_itself = given[2]
+    row = given[3:]
+    if not all_choices(world, row):
+        return [NO_SUCH]
+    if not is_aim(world, aim, wanted) or by_itself > 1:
+        return [NOT_ALLOWED]
+    states = world.states_along(row)
+    if len(states) <= len(row):
+        return [CANNOT_BE_DONE]
+    if (states[-1] & aim) != wanted:
+        return [AIM_NOT_MET]
+    otherwise = states[-1] ^ world.held_against(by_itself, len(row))
+    return [world.weight_of(otherwise - (otherwise & aim))]
+
+
 REPLIES = {
     0: answer_begin,
     1: answer_deed,
@@ -124,6 +179,9 @@ REPLIES = {
     8: answer_weight,
     9: answer_weights,
     10: answer_base,
+    16: answer_changes,
+    17: answer_touches,
+    18: answer_price,
 }
 
 

@@ -120,6 +120,45 @@ class Model:
         refuse_if(b > 1 or t > 40, -22)
         return told_as_number(self.against(b, t))
 
+    def check_choices(self, row):
+        refuse_if(any(choice > len(self.rules["deed"]) for choice in row), -2)
+
+    def follow(self, row):
+        """How many choices of the row can be done, and what is so behind them."""
+        so = self.so
+        for done, choice in enumerate(row):
+            behind = self.step(choice, so)
+            if behind is None:
+                return done, so
+            so = behind
+        return len(row), so
+
+    @staticmethod
+    def counted(facts):
+        return [len(facts)] + sorted(facts)
+
+    def call_changes(self, b, row):
+        self.check_choices(row)
+        refuse_if(b > 1, -22)
+        done, so = self.follow(row)
+        return self.counted(so.symmetric_difference(self.against(b, done)))
+
+    def call_touches(self, i):
+        self.check_choices([i])
+        so = self.step(i, self.so)
+        refuse_if(so is None, -6)
+        return self.counted(so.symmetric_difference(self.against(1, 1)))
+
+    def call_price(self, a, w, b, row):
+        self.check_choices(row)
+        a, w = members(a), members(w)
+        refuse_if(not w <= a <= self.facts or b > 1, -22)
+        done, so = self.follow(row)
+        refuse_if(done < len(row), -6)
+        refuse_if(any((q in so) != (q in w) for q in a), -33)
+        against = self.against(b, len(row))
+        return sum(self.weight_of[q] for q in self.facts - a if (q in so) != (q in against))
+
 
 def model_answers(calls):
     model = Model()

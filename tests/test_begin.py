@@ -61,6 +61,10 @@ class BeforeABegin(unittest.TestCase):
         self.assertEqual(ask(*EVERY_OTHER_CALL), [[-11]] * 20)
         self.assertEqual(ask(*EVERY_OTHER_CALL_WRONG), [[-11]] * 20)
 
+    def test_the_call_behind_each_of_them_is_read(self):
+        for call in EVERY_OTHER_CALL + EVERY_OTHER_CALL_WRONG:
+            self.assertEqual(ask(call, ("begin", 2), ("now",)), [[-11], [0], [0]], call)
+
     def test_what_was_refused_before_a_begin_changes_nothing(self):
         answered = ask(
             ("set", 3), ("weight", 0, 9), ("deed", 0, 0, 1, 1), ("event", 0, 0, 1, 1),

@@ -9,11 +9,13 @@ REFUSED = (
     ("begin", 1), ("begin", HIGHEST), ("deed", 1, 2, 1, 1), ("deed", 0, 0, 0, 0), ("deed", 0, 0, 8, 8),
     ("event", 8, 8, 1, 1), ("event", 0, 0, 1, 1), ("undeed", 2), ("undeed", HIGHEST), ("unevent", 3),
     ("set", 8), ("set", HIGHEST), ("do", 2), ("do", 1), ("weight", 3, 1), ("weight", 0, 101),
-    ("base", 2, 0), ("base", 1, 41),
+    ("base", 2, 0), ("base", 1, 41), ("changes", 0, [3]), ("changes", 2, [0]), ("touches", 3),
+    ("touches", 1), ("price", 0, 0, 0, [3]), ("price", 8, 8, 0, [0]), ("price", 0, 0, 0, [0, 1]),
+    ("price", 1, 0, 0, [0]),
 )
 REFUSALS = [
     [-22], [-22], [-22], [-22], [-22], [-22], [-28], [-2], [-2], [-2], [-22], [-22], [-2], [-6], [-2],
-    [-22], [-22], [-22],
+    [-22], [-22], [-22], [-2], [-22], [-2], [-6], [-2], [-22], [-6], [-33],
 ]
 BUSY = (
     ("begin", 3), ("deed", 0, 0, 1, 1), ("deed", 4, 4, 1, 0), ("event", 1, 1, 2, 2),
@@ -52,6 +54,9 @@ class WhatIsGivenBack(unittest.TestCase):
         self.assertEqual(answers([18, 0, 0, 0, 2, 0, 2, 0, 2]), [1, -11, 1, 0])
         self.assertEqual(answers([18, 0, 0, 0, 0, 0, 2]), [1, -11, 1, 0])
         self.assertEqual(answers([18, 0, 0, 0, 12] + [0] * 12 + [0, 2]), [1, -11, 1, 0])
+        self.assertEqual(
+            answers([0, 2, 16, 0, 0, 18, 0, 0, 0, 0, 16, 1, 2, 0, 0, 18, 0, 0, 1, 12] + [0] * 12 + [6]),
+            [1, 0, 1, 0, 1, 0, 1, 0, 1, 0, 1, 0])
 
 
 class RefusedCalls(unittest.TestCase):
@@ -59,8 +64,8 @@ class RefusedCalls(unittest.TestCase):
         without = ask(*BUSY, *LOOK)
         refused = ask(*BUSY, *REFUSED, *LOOK)
         self.assertEqual(refused[:8], without[:8])
-        self.assertEqual(refused[8:26], REFUSALS)
-        self.assertEqual(refused[26:], without[8:])
+        self.assertEqual(refused[8:34], REFUSALS)
+        self.assertEqual(refused[34:], without[8:])
 
     def test_each_of_them_many_times(self):
         without = ask(*BUSY, *LOOK)
@@ -77,11 +82,11 @@ class LongLists(unittest.TestCase):
 
     def test_sixty_calls_of_many_kinds(self):
         calls = BUSY + REFUSED + LOOK + (("begin", 2), ("deed", 1, 0, 1, 1), ("event", 2, 0, 2, 2))
-        calls = calls + (("do", 0), ("set", 0)) * 10
+        calls = calls + (("do", 0), ("set", 0)) * 6
         self.assertEqual(len(calls), 60)
         answered = ask(*calls)
         self.assertEqual(len(answered), 60)
-        self.assertEqual(answered[37:], [[0], [0], [0]] + [[3], [3]] * 10)
+        self.assertEqual(answered[45:], [[0], [0], [0]] + [[3], [3]] * 6)
 
 
 class NothingIsKept(unittest.TestCase):

@@ -24,10 +24,20 @@ def some_number(source, most):
     return HIGHEST if source.randrange(40) == 0 else source.randrange(most + 1)
 
 
+def some_row(source):
+    most = source.choice([3, 4, 6])
+    return [some_number(source, most) for place in range(source.choice([0, 1, 1, 2, 2, 3, 4, 12]))]
+
+
+def some_aim(source):
+    a, w = some_set(source), some_set(source)
+    return (a, w) if source.randrange(10) == 0 else (a, a & w)
+
+
 def some_call(source):
     name = source.choice(
         ["deed", "event", "deed", "event", "do", "do", "do", "base", "base", "set", "now", "weight",
-         "weights", "undeed", "unevent", "begin"])
+         "weights", "undeed", "unevent", "begin", "changes", "changes", "touches", "price", "price"])
     if name == "begin":
         return (name, some_number(source, 6)) if source.randrange(4) == 0 else ("now",)
     if name in ("deed", "event"):
@@ -38,7 +48,12 @@ def some_call(source):
         return (name, some_number(source, 5), some_number(source, 103))
     if name == "base":
         return (name, some_number(source, 2), some_number(source, 42))
-    return (name, some_number(source, {"set": 16, "do": 4, "undeed": 6, "unevent": 4}[name]))
+    if name == "changes":
+        return (name, some_number(source, 2), some_row(source))
+    if name == "price":
+        return (name,) + some_aim(source) + (source.choice([0, 0, 0, 1, 1, 1, 2]), some_row(source))
+    most = {"set": 16, "do": 4, "undeed": 6, "unevent": 4, "touches": 6}
+    return (name, some_number(source, most[name]))
 
 
 def some_calls(source):
@@ -58,7 +73,9 @@ class AgainstTheModel(unittest.TestCase):
         for name, refusals in (
                 ("begin", (0, -22)), ("deed", (0, -22, -28, -11)), ("event", (0, -22, -28, -11)),
                 ("undeed", (0, -2, -11)), ("unevent", (0, -2, -11)), ("set", (0, -22, -11)),
-                ("do", (0, -2, -6, -11)), ("weight", (0, -2, -22, -11)), ("base", (0, -22, -11))):
+                ("do", (0, -2, -6, -11)), ("weight", (0, -2, -22, -11)), ("base", (0, -22, -11)),
+                ("changes", (0, -2, -22, -11)), ("touches", (0, -2, -6, -11)),
+                ("price", (0, -2, -22, -6, -33, -11))):
             for refusal in refusals:
                 self.assertIn((name, refusal), seen)
 
