@@ -5,9 +5,13 @@ numbers that are answered. The refusals of a call are asked in the order in
 which the document tells them behind it.
 """
 
+from leastchange.aim import Aim
+from leastchange.aim import is_aim
 from leastchange.rule import Rule
 from leastchange.rule import is_rule
 from leastchange.rule import within
+from leastchange.search import endings_by_steps
+from leastchange.search import least_ending
 
 NO_SUCH = -2
 CANNOT_BE_DONE = -6
@@ -22,6 +26,10 @@ MOST_DEEDS = 6
 MOST_EVENTS = 3
 MOST_WEIGHT = 100
 MOST_BASE_STEPS = 40
+MOST_STEPS = 10
+
+NO_GUARD = 0
+NO_ROW = -1
 
 BEGIN = 0
 
@@ -118,10 +126,6 @@ def all_choices(world, row):
     return all([world.is_choice(choice) for choice in row])
 
 
-def is_aim(world, aim, wanted):
-    return within(aim, world.everything()) and within(wanted, aim)
-
-
 def count_and_facts(world, facts):
     told = world.facts_of(facts)
     return [len(told)] + told
@@ -150,21 +154,97 @@ def answer_touches(world, given):
 
 
 def answer_price(world, given):
-    aim = given[0]
-    wanted = given[1]
     by_itself = given[2]
     row = given[3:]
     if not all_choices(world, row):
         return [NO_SUCH]
-    if not is_aim(world, aim, wanted) or by_itself > 1:
+    if not is_aim(world.everything(), given[0], given[1]) or by_itself > 1:
         return [NOT_ALLOWED]
+    aim = Aim(given[0], given[1])
     states = world.states_along(row)
     if len(states) <= len(row):
         return [CANNOT_BE_DONE]
-    if (states[-1] & aim) != wanted:
+    if not aim.is_met(states[-1]):
         return [AIM_NOT_MET]
-    otherwise = states[-1] ^ world.held_against(by_itself, len(row))
-    return [world.weight_of(otherwise - (otherwise & aim))]
+    return [world.weight_changed(aim, states[-1], world.held_against(by_itself, len(row)))]
+
+
+def can_be_asked(world, asked):
+    # What is asked stands as guarded tells it: a, w, b, g, k.
+    aim_fits = is_aim(world.everything(), asked[0], asked[1]) and asked[2] <= 1
+    return aim_fits and within(asked[3], world.everything()) and asked[4] <= MOST_STEPS
+
+
+def endings_asked(world, asked):
+    return endings_by_steps(world, Aim(asked[0], asked[1]), asked[2], asked[3], asked[4])
+
+
+def without_guard(given):
+    # Every row keeps a guard of no facts.
+    return given[:3] + [NO_GUARD, given[3]]
+
+
+def answer_guarded(world, given):
+    if not can_be_asked(world, given):
+        return [NOT_ALLOWED]
+    ending = least_ending(endings_asked(world, given))
+    if ending is None:
+        return [AIM_NOT_MET]
+    return [ending.changed, len(ending.row)]
+
+
+def answer_guardrow(world, given):
+    if not can_be_asked(world, given):
+        return [NOT_ALLOWED]
+    ending = least_ending(endings_asked(world, given))
+    if ending is None:
+        return [AIM_NOT_MET]
+    return [len(ending.row)] + ending.row
+
+
+def answer_least(world, given):
+    return answer_guarded(world, without_guard(given))
+
+
+def answer_row(world, given):
+    return answer_guardrow(world, without_guard(given))
+
+
+def costs_asked(world, asked):
+    endings = endings_asked(world, asked)
+    return [NO_ROW if ending is None else ending.changed for ending in endings]
+
+
+def answer_costs(world, given):
+    asked = without_guard(given)
+    if not can_be_asked(world, asked):
+        return [NOT_ALLOWED]
+    costs = costs_asked(world, asked)
+    return [len(costs)] + costs
+
+
+def can_be_left(world, given, fact):
+    asked = given[:3] + [1 << fact, given[3]]
+    return least_ending(endings_asked(world, asked)) is not None
+
+
+def answer_free(world, given):
+    if not can_be_asked(world, without_guard(given)):
+        return [NOT_ALLOWED]
+    others = world.facts_of(world.everything() - given[0])
+    left = [fact for fact in others if can_be_left(world, given, fact)]
+    return [len(left)] + left
+
+
+def answer_firstfree(world, given):
+    asked = given + [NO_GUARD, MOST_STEPS]
+    if not can_be_asked(world, asked):
+        return [NOT_ALLOWED]
+    costs = costs_asked(world, asked)
+    if 0 not in costs:
+        return [AIM_NOT_MET]
+    # Of rows of just so many steps the first that changes nothing is the fewest k.
+    return [costs.index(0)]
 
 
 REPLIES = {
@@ -179,15 +259,20 @@ REPLIES = {
     8: answer_weight,
     9: answer_weights,
     10: answer_base,
+    11: answer_least,
+    12: answer_row,
+    13: answer_costs,
+    14: answer_guarded,
+    15: answer_guardrow,
     16: answer_changes,
     17: answer_touches,
     18: answer_price,
+    19: answer_free,
+    20: answer_firstfree,
 }
 
 
 def answer_call(world, number, given):
     if number != BEGIN and not world.has_begun():
         return [NOT_BEGUN]
-    if number not in REPLIES:
-        raise NotImplementedError(f"call {number} is not built yet")
     return REPLIES[number](world, given)

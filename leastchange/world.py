@@ -67,3 +67,6 @@ class World:
 
     def weight_of(self, facts):
         return sum([self.weights[fact] for fact in self.facts_of(facts)])
+
+    def weight_changed(self, aim, state, against):
+        return self.weight_of(aim.besides(state ^ against))

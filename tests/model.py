@@ -1,5 +1,7 @@
 """A second telling of the document for the tests: each fact is held as True or False by itself."""
 
+import functools
+
 
 class Refused(Exception):
     def __init__(self, number):
@@ -12,8 +14,9 @@ def refuse_if(due, number):
         raise Refused(number)
 
 
+@functools.lru_cache(maxsize=None)
 def members(number):
-    return {q for q in range(32) if number // 2 ** q % 2 == 1}
+    return frozenset(q for q in range(32) if number // 2 ** q % 2 == 1)
 
 
 def told_as_number(facts):
@@ -149,15 +152,89 @@ class Model:
         refuse_if(so is None, -6)
         return self.counted(so.symmetric_difference(self.against(1, 1)))
 
+    def check_aim(self, a, w, b):
+        refuse_if(not members(w) <= members(a) <= self.facts or b > 1, -22)
+
+    @staticmethod
+    def meets(so, a, w):
+        return all((q in so) == (q in members(w)) for q in members(a))
+
+    def changed(self, so, against, a):
+        return sum(self.weight_of[q] for q in self.facts - members(a) if (q in so) != (q in against))
+
     def call_price(self, a, w, b, row):
         self.check_choices(row)
-        a, w = members(a), members(w)
-        refuse_if(not w <= a <= self.facts or b > 1, -22)
+        self.check_aim(a, w, b)
         done, so = self.follow(row)
         refuse_if(done < len(row), -6)
-        refuse_if(any((q in so) != (q in w) for q in a), -33)
-        against = self.against(b, len(row))
-        return sum(self.weight_of[q] for q in self.facts - a if (q in so) != (q in against))
+        refuse_if(not self.meets(so, a, w), -33)
+        return self.changed(so, self.against(b, len(row)), a)
+
+    def endings(self, a, w, b, g, k):
+        """For each number of steps by which the aim can be come to: the least that's changed, and its first row.
+
+        Told from behind: what is best from a state on is the best of what each choice leads to.
+        """
+        bases = [frozenset(self.against(b, t)) for t in range(k + 1)]
+        known = {}
+
+        def onward(so, t):
+            if (so, t) not in known:
+                known[so, t] = found = {}
+                if self.meets(so, a, w):
+                    found[t] = (self.changed(so, bases[t], a), ())
+                if t < k:
+                    try_choices(so, t, found)
+            return known[so, t]
+
+        def try_choices(so, t, found):
+            for choice in range(len(self.rules["deed"]) + 1):
+                behind = self.step(choice, so)
+                if behind is None or members(g) & behind.symmetric_difference(bases[t + 1]):
+                    continue
+                for n, (much, row) in onward(frozenset(behind), t + 1).items():
+                    candidate = (much, (choice,) + row)
+                    found[n] = min(found.get(n, candidate), candidate)
+
+        return onward(frozenset(self.so), 0)
+
+    def best(self, a, w, b, g, k):
+        self.check_aim(a, w, b)
+        refuse_if(k > 10 or not members(g) <= self.facts, -22)
+        found = self.endings(a, w, b, g, k)
+        refuse_if(not found, -33)
+        return min((much, n, row) for n, (much, row) in found.items())
+
+    def call_guarded(self, a, w, b, g, k):
+        return list(self.best(a, w, b, g, k)[:2])
+
+    def call_guardrow(self, a, w, b, g, k):
+        row = self.best(a, w, b, g, k)[2]
+        return [len(row)] + list(row)
+
+    def call_least(self, a, w, b, k):
+        return self.call_guarded(a, w, b, 0, k)
+
+    def call_row(self, a, w, b, k):
+        return self.call_guardrow(a, w, b, 0, k)
+
+    def call_costs(self, a, w, b, k):
+        self.check_aim(a, w, b)
+        refuse_if(k > 10, -22)
+        found = self.endings(a, w, b, 0, k)
+        return [k + 1] + [found[n][0] if n in found else -1 for n in range(k + 1)]
+
+    def call_free(self, a, w, b, k):
+        self.check_aim(a, w, b)
+        refuse_if(k > 10, -22)
+        return self.counted({q for q in self.facts - members(a) if self.endings(a, w, b, 2 ** q, k)})
+
+    def call_firstfree(self, a, w, b):
+        self.check_aim(a, w, b)
+        found = self.endings(a, w, b, 0, 10)
+        free = [n for n in found if found[n][0] == 0]
+        refuse_if(not free, -33)
+        return min(free)
 
 
 def model_answers(calls):

@@ -21,7 +21,6 @@ BUILTIN_NAMES = (
     "len", "range", "enumerate", "zip", "min", "max", "sum", "abs", "sorted", "reversed", "int", "str",
     "bool", "list", "tuple", "dict", "set", "isinstance", "ord", "repr", "any", "all", "divmod",
     "Exception", "ValueError", "KeyError", "IndexError", "LookupError", "ZeroDivisionError",
-    "NotImplementedError",
 )
 WORDS_THAT_STAND_NOWHERE = (
     "type", "typing", "typing_extensions", "enum", "Enum", "IntEnum", "StrEnum", "Flag", "IntFlag",
@@ -126,6 +125,48 @@ class Language(unittest.TestCase):
             for drawn in node.names:
                 self.assertNotEqual(drawn.name, "*")
                 self.assertIsNone(drawn.asname)
+
+    def test_names_are_drawn_from_the_file_that_defines_them(self):
+        defined = {
+            "leastchange." + name[:-3]: {
+                node.name for node in tree.body if isinstance(node, (ast.FunctionDef, ast.ClassDef))}
+            for name, tree in trees()}
+        for name, node in nodes(ast.ImportFrom):
+            for drawn in node.names:
+                self.assertIn(drawn.name, defined[node.module], (name, node.lineno))
+
+    def test_no_two_files_draw_from_one_another(self):
+        drawn = {name[:-3]: set() for name, tree in trees()}
+        for name, node in nodes(ast.ImportFrom):
+            drawn[name[:-3]].add(node.module.split(".")[1])
+        while drawn:
+            last = [name for name in drawn if not drawn[name] & set(drawn)]
+            self.assertNotEqual(last, [], drawn)
+            for name in last:
+                drawn.pop(name)
+
+    def test_no_parameter_or_local_is_called_like_a_class_or_an_import(self):
+        for name, tree in trees():
+            taken = {node.name for node in tree.body if isinstance(node, ast.ClassDef)}
+            taken.update(drawn.name for node in tree.body if isinstance(node, ast.ImportFrom) for drawn in node.names)
+            for node in ast.walk(tree):
+                if isinstance(node, ast.arg):
+                    self.assertNotIn(node.arg, taken, name)
+                elif isinstance(node, ast.Name) and isinstance(node.ctx, ast.Store):
+                    self.assertNotIn(node.id, taken, name)
+
+    def test_is_stands_beside_none_true_and_false_alone(self):
+        for name, node in nodes(ast.Compare):
+            for sign, right in zip(node.ops, node.comparators):
+                if isinstance(sign, (ast.Is, ast.IsNot)):
+                    self.assertIsInstance(right, ast.Constant, (name, node.lineno))
+                    self.assertIn(right.value, (None, True, False), (name, node.lineno))
+
+    def test_every_name_of_a_files_top_is_bound_once(self):
+        for name, tree in trees():
+            bound = [node.targets[0].id for node in tree.body if isinstance(node, ast.Assign)]
+            bound.extend(node.name for node in tree.body if isinstance(node, (ast.FunctionDef, ast.ClassDef)))
+            self.assertEqual(len(bound), len(set(bound)), name)
 
     def test_names(self):
         for name, tree in trees():

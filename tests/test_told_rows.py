@@ -3,13 +3,7 @@
 import unittest
 
 from asking import HIGHEST, ask, ask_last
-
-# Deed 0 makes fact 0 so, deed 1 needs it and makes fact 1 so, deed 2 makes fact 0 not so; 3 is waiting.
-THREE_DEEDS = (
-    ("begin", 4), ("deed", 1, 0, 1, 1), ("deed", 1, 1, 2, 2), ("deed", 0, 0, 1, 0),
-)
-# Besides, fact 3 comes by itself, and fact 2 with it a step later.
-WITH_EVENTS = THREE_DEEDS + (("event", 8, 8, 4, 4), ("event", 0, 0, 8, 8))
+from worlds import THREE_DEEDS, WEIGHED, WITH_EVENTS
 
 
 class Changes(unittest.TestCase):
@@ -127,24 +121,22 @@ class Touches(unittest.TestCase):
 
 
 class Price(unittest.TestCase):
-    WEIGHED = (("weight", 0, 10), ("weight", 1, 20), ("weight", 2, 40), ("weight", 3, 80))
-
     def test_the_weights_of_what_is_changed_besides_the_aim(self):
         for aim, wanted, row, price in (
                 (2, 2, [0, 1], 10), (2, 2, [0, 1, 2], 0), (3, 3, [0, 1], 0), (1, 1, [0, 1], 20),
                 (1, 1, [0], 0), (3, 2, [0, 1, 2], 0), (1, 0, [0, 1, 2], 20), (4, 0, [0, 1], 30),
                 (15, 3, [0, 1], 0)):
             for by_itself in (0, 1):
-                answered = ask_last(*THREE_DEEDS, *self.WEIGHED, ("price", aim, wanted, by_itself, row))
+                answered = ask_last(*THREE_DEEDS, *WEIGHED, ("price", aim, wanted, by_itself, row))
                 self.assertEqual(answered, [price], (aim, wanted, row))
 
     def test_held_against_now_or_what_comes_by_itself(self):
         for row, against_now, by_itself in (
                 ([0, 1], 130, 10), ([0, 1, 2], 120, 0), ([0, 3, 1], 130, 10)):
             self.assertEqual(
-                ask_last(*WITH_EVENTS, *self.WEIGHED, ("price", 2, 2, 0, row)), [against_now])
+                ask_last(*WITH_EVENTS, *WEIGHED, ("price", 2, 2, 0, row)), [against_now])
             self.assertEqual(
-                ask_last(*WITH_EVENTS, *self.WEIGHED, ("price", 2, 2, 1, row)), [by_itself])
+                ask_last(*WITH_EVENTS, *WEIGHED, ("price", 2, 2, 1, row)), [by_itself])
 
     def test_every_weight_is_one_at_first(self):
         self.assertEqual(ask_last(*WITH_EVENTS, ("price", 2, 2, 0, [0, 1])), [3])
